@@ -1,0 +1,1 @@
+"""Choosing under a rule of independence while prices are known by bounds or comparisons alone."""
