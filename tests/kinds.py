@@ -4,15 +4,18 @@ import random
 from itertools import product
 
 from tests.meaning import (
-    Meaning, all_sets, columns_test, cut_meaning, drawn_meaning, firsts_test, less_meaning, net_test, teams_test,
-    told_test, works_test,
+    Meaning, all_sets, columns_test, cut_meaning, drawn_meaning, firsts_test, less_meaning, many_meaning, net_test,
+    sum_meaning, teams_test, told_test, turned_meaning, works_test,
 )
 from unseenprices.columns import Columns
 from unseenprices.counting import Firsts, Teams, Works
+from unseenprices.many import Many
 from unseenprices.nets import Net
 from unseenprices.rules import Rule
 from unseenprices.shapes import Cut, Drawn, Less
+from unseenprices.sums import Sum
 from unseenprices.toldlots import ToldLots
+from unseenprices.turned import Turned
 
 FIRSTS = tuple((size, k) for size in range(6) for k in range(size + 2)) + ((3, 100),)
 
@@ -78,12 +81,23 @@ def shaped(rule, meaning, word, given):
         return Less(rule, given), less_meaning(meaning, given)
     if word == "drawn":
         return Drawn(rule, given), drawn_meaning(meaning, given)
-    return Cut(rule, given), cut_meaning(meaning, given)
+    if word == "cut":
+        return Cut(rule, given), cut_meaning(meaning, given)
+    if word == "many":
+        return Many(rule, given), many_meaning(meaning, given)
+    if word == "turned":
+        return Turned(rule), turned_meaning(meaning)
+    other, meant = given
+    return Sum(other, rule), sum_meaning(meant, meaning)
 
 
 def some_given(chance, size, word):
     if word == "cut":
         return chance.randrange(size + 2)
+    if word == "many":
+        return chance.randrange(1, 4)
+    if word == "sum":
+        return Firsts(1, 1), Meaning(1, firsts_test(1))
     return tuple(x for x in range(size) if chance.random() < 0.3)
 
 
@@ -95,6 +109,53 @@ def shape_rules(rules):
         if meaning.size >= 3:
             for depth in range(place % 4 + 1):
                 word = ("less", "drawn", "cut")[(place + depth) % 3]
+                rule, meaning = shaped(rule, meaning, word, some_given(chance, meaning.size, word))
+            found.append((rule, meaning))
+    return found
+
+
+def turned_rules(rules):
+    """Return each of the rules turned, with its meaning."""
+    return [(Turned(rule), turned_meaning(meaning)) for rule, meaning in rules]
+
+
+def many_rules(rules):
+    """Return Many over each of the rules, with its meaning."""
+    found = []
+    for place, (rule, meaning) in enumerate(rules):
+        for k in (1, 2, 3, 50)[place % 2::2]:
+            found.append((Many(rule, k), many_meaning(meaning, k)))
+    return found
+
+
+def sum_rules(rules):
+    """Return sums of neighbours among the rules, of a rule with itself, of three rules and of a sum."""
+    small = [(rule, meaning) for rule, meaning in rules if meaning.size <= 3]
+    found = []
+    for (rule, meaning), (other, meant) in zip(small, small[1:] + small[:1]):
+        found.append((Sum(rule, other), sum_meaning(meaning, meant)))
+    for rule, meaning in small[::3]:
+        found.append((Sum(rule, rule), sum_meaning(meaning, meaning)))
+    for rule, meaning in [row for row in small if row[1].size == 2]:
+        one, meant = Firsts(1, 1), Meaning(1, firsts_test(1))
+        none, nothing = Rule(0), Meaning(0, firsts_test(1))
+        found.append((Sum(one, rule, none, one), sum_meaning(meant, meaning, nothing, meant)))
+        found.append((Sum(Sum(rule, none), one), sum_meaning(meaning, nothing, meant)))
+        found.append((Sum(none, Sum(rule, rule), none), sum_meaning(meaning, meaning)))
+    return found
+
+
+def mixed_rules(rules):
+    """Return all shapes over one another, two to four deep, each with its meaning."""
+    chance = random.Random(8)
+    words = ("turned", "many", "less", "sum", "drawn", "cut")
+    found = []
+    for place, (rule, meaning) in enumerate(rules):
+        if 2 <= meaning.size <= 5:
+            for depth in range(place % 3 + 2):
+                # Few things remain few: a sum adds one.
+                fitting = words if meaning.size <= 5 else [word for word in words if word != "sum"]
+                word = chance.choice(fitting)
                 rule, meaning = shaped(rule, meaning, word, some_given(chance, meaning.size, word))
             found.append((rule, meaning))
     return found
@@ -131,8 +192,39 @@ def deep_rules(rules):
     ]
 
 
+def deep_shapes(rules):
+    """Return shapes four deep over the rules, with Turned, Many and Sum among them."""
+    found = []
+    for rule in rules:
+        third = rule.full // 3 + 1
+        found += [
+            Many(Turned(Many(Turned(rule), 2)), 2),
+            Many(Cut(Many(Cut(rule, third), 2), third + 1), 2),
+            Turned(Less(Many(Drawn(rule, (2,)), 2), (1, 7))),
+            Turned(Many(Less(Turned(rule), (0, 3)), 2)),
+            Many(Many(Many(Cut(rule, 1), 2), 3), 1),
+        ]
+    return found
+
+
+def wide_sums():
+    """Return sums with 16 things, alone and among other shapes."""
+    wheel = Net(5, tuple((x, (x + 1) % 4) for x in range(4)) + tuple((x, 4) for x in range(4)))
+    flat = Columns(3, tuple((x % 3, x // 3, (x * x) % 3) for x in range(8)))
+    works = Works((1, 2, 2, 3))
+    return [
+        Sum(wheel, flat), Sum(wheel, wheel), Sum(works, Firsts(4, 2), Rule(0), flat), Many(Sum(wheel, flat), 2),
+        Turned(Sum(Many(flat, 2), Turned(wheel))), Cut(Many(Sum(flat, Drawn(wheel, (1,))), 2), 9),
+        Sum(Sum(works, works), Sum(works, works)),
+    ]
+
+
 PLAIN_RULES = plain_rules()
 SHAPE_RULES = shape_rules(PLAIN_RULES)
-SMALL_RULES = PLAIN_RULES + SHAPE_RULES
+TURNED_RULES = turned_rules(PLAIN_RULES + SHAPE_RULES)
+SUM_RULES = sum_rules(PLAIN_RULES)
+MANY_RULES = many_rules(PLAIN_RULES + SHAPE_RULES)
+MIXED_RULES = mixed_rules(PLAIN_RULES + SUM_RULES)
+SMALL_RULES = PLAIN_RULES + SHAPE_RULES + TURNED_RULES + SUM_RULES + MANY_RULES + MIXED_RULES
 WIDE_RULES = wide_rules()
-DEEP_RULES = deep_rules(WIDE_RULES)
+DEEP_RULES = deep_rules(WIDE_RULES) + deep_shapes(WIDE_RULES) + wide_sums()

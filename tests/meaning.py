@@ -214,3 +214,44 @@ def drawn_meaning(meaning, gone):
 
 def cut_meaning(meaning, k):
     return Meaning(meaning.size, lambda things: things in meaning.free and len(things) <= k)
+
+
+def turned_of(size, things):
+    """Return the turned set: all x' with x in the set."""
+    return tuple(sorted(size - 1 - x for x in things))
+
+
+def turned_meaning(meaning):
+    def test(things):
+        turned = set(turned_of(meaning.size, things))
+        return any(not turned & set(lot) for lot in meaning.lots)
+    return Meaning(meaning.size, test)
+
+
+def shares_of(sizes, things):
+    """Return what a set of a sum has of each rule, with the rule's own numbers."""
+    starts = [sum(sizes[:place]) for place in range(len(sizes))]
+    return [
+        tuple(x - start for x in things if start <= x < start + size) for start, size in zip(starts, sizes)
+    ]
+
+
+def sum_meaning(*meanings):
+    sizes = [meaning.size for meaning in meanings]
+
+    def test(things):
+        return all(share in meaning.free for meaning, share in zip(meanings, shares_of(sizes, things)))
+    return Meaning(sum(sizes), test)
+
+
+def divisible_sets(meaning, k):
+    """Return all sets that can be divided into k free sets, built up one free set after the other."""
+    found = {()}
+    for _ in range(min(k, meaning.size)):
+        found = {with_things(one, free) for one in found for free in meaning.free if not set(one) & set(free)}
+    return found
+
+
+def many_meaning(meaning, k):
+    found = divisible_sets(meaning, k)
+    return Meaning(meaning.size, lambda things: things in found)

@@ -14,6 +14,14 @@ LISTED = {
     "columns": ("Columns", "multiples"),
     "toldlots": ("ToldLots", "fault"),
     "shapes": ("Less", "Drawn", "Cut"),
+    "turned": ("Turned",),
+    "sums": ("Sum",),
+    "connected": ("parts", "part_of", "joined", "lacks"),
+    "parting": ("parted", "too_full"),
+    "many": ("Many", "greatest", "loosest"),
+    "covering": ("lots_apart", "few_outside", "most_apart", "covers", "fullest", "lot_prices"),
+    "stretches": ("stretches_of",),
+    "comparing": ("pairs_of", "row_between", "ring_in", "behind", "forward"),
 }
 PARAMETERS = {
     "set_of": "size things", "world_of": "size prices", "both": "one other", "common": "one other",
@@ -22,7 +30,13 @@ PARAMETERS = {
     "swaps": "rule lot other", "Firsts": "size k", "Teams": "classes places", "Works": "days",
     "timetable": "works things", "Net": "points lines", "pieces": "net things", "ring": "net things",
     "Columns": "prime columns", "multiples": "columns things thing", "ToldLots": "size lots", "fault": "size lots",
-    "Less": "rule things", "Drawn": "rule things", "Cut": "rule k",
+    "Less": "rule things", "Drawn": "rule things", "Cut": "rule k", "Turned": "rule", "Sum": "rule other rest",
+    "parts": "rule", "part_of": "rule thing", "joined": "rule one other", "lacks": "rule things",
+    "parted": "rule things k", "too_full": "rule things k", "Many": "rule k", "greatest": "many things",
+    "loosest": "many things", "lots_apart": "rule k", "few_outside": "rule k", "most_apart": "rule",
+    "covers": "rule", "fullest": "rule", "lot_prices": "rule world most", "stretches_of": "told",
+    "pairs_of": "size told", "row_between": "size pairs one other", "ring_in": "size pairs",
+    "behind": "size pairs thing", "forward": "size pairs",
 }
 
 
@@ -38,5 +52,5 @@ class InterfaceTest(unittest.TestCase):
     def test_readme(self):
         path = os.path.join(os.path.dirname(__file__), "..", "README.md")
         told = doctest.testfile(path, module_relative=False)
-        self.assertGreater(told.attempted, 10)
+        self.assertGreater(told.attempted, 30)
         self.assertEqual(told.failed, 0)

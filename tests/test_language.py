@@ -146,6 +146,24 @@ class SyntaxTest(unittest.TestCase):
                 self.assertIsInstance(node, ast.FunctionDef)
                 self.assertIn(ast.unparse(decorator), ("property", "classmethod", "staticmethod"))
 
+    def test_a_property_only_reads_an_attribute(self):
+        found = [node for node in self.nodes(ast.FunctionDef) if "property" in map(ast.unparse, node.decorator_list)]
+        self.assertTrue(found)
+        for node in found:
+            last = node.body[-1]
+            self.assertEqual(len(node.body), 2, node.name)
+            self.assertTrue(isinstance(last, ast.Return) and isinstance(last.value, ast.Attribute), node.name)
+
+    def test_no_loop_changes_what_it_goes_over(self):
+        for loop in self.nodes(ast.For):
+            named = {ast.unparse(node) for node in ast.walk(loop.iter) if isinstance(node, (ast.Name, ast.Attribute))}
+            for node in [inner for row in loop.body for inner in ast.walk(row)]:
+                if isinstance(node, ast.Call) and isinstance(node.func, ast.Attribute):
+                    if node.func.attr in ("append", "clear", "extend", "insert", "pop", "remove", "reverse", "update"):
+                        self.assertNotIn(ast.unparse(node.func.value), named)
+                if isinstance(node, ast.Subscript) and isinstance(node.ctx, ast.Store):
+                    self.assertNotIn(ast.unparse(node.value), named)
+
     def test_no_generator_expressions(self):
         self.assertFalse(self.nodes(ast.GeneratorExp))
 

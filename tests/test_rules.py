@@ -7,8 +7,11 @@ from itertools import combinations
 from tests.kinds import DEEP_RULES, SMALL_RULES, WIDE_RULES
 from tests.meaning import Meaning, check_rule, check_swaps, raised
 from unseenprices.counting import Firsts, Teams
+from unseenprices.many import Many
 from unseenprices.nets import Net
 from unseenprices.rules import Rule, basis, check_lot, check_thing, swaps
+from unseenprices.sums import Sum
+from unseenprices.turned import Turned
 
 LISTED = (
     "is_free", "is_lot", "rank", "span", "dead", "firm", "lots", "circuit", "blow_of", "exchanges", "__len__",
@@ -225,6 +228,10 @@ class LawsTest(unittest.TestCase):
         self.assertEqual(Rule(10).lots(), [tuple(range(10))])
         self.assertEqual(Firsts(10, 3).lots(), list(combinations(range(10), 3)))
         self.assertEqual(len(Teams((0, 1) * 5, (2, 2)).lots()), 100)
+        self.assertEqual(Turned(Firsts(10, 3)).lots(), list(combinations(range(10), 7)))
+        self.assertEqual(Many(Firsts(10, 2), 3).lots(), list(combinations(range(10), 6)))
+        self.assertEqual(len(Sum(Firsts(4, 2), Turned(Firsts(6, 4))).lots()), 6 * 15)
+        self.assertEqual(raised(Sum(Firsts(5, 2), Rule(6)).lots), ("TooMany", {"number": 11}))
 
     def test_swaps_need_more_than_the_first_fit(self):
         # Thing 0 could take the only partner that thing 2 has.

@@ -17,8 +17,9 @@ class Columns(Rule):
         super().__init__(len(columns))
         self.prime = prime
         self.columns = tuple([tuple(column) for column in columns])
+        self._full = self.rank_of(self._all)
 
-    def rank_of(self, things):
+    def rank_found(self, things):
         rows = [self.columns[thing] for thing in things]
         return len(leading_rows(self.prime, rows, len(rows[0]) if rows else 0))
 

@@ -13,8 +13,9 @@ class Firsts(Rule):
         if not is_count(k):
             raise BadNumber("k")
         self.number = k
+        self._full = self.rank_of(self._all)
 
-    def rank_of(self, things):
+    def rank_found(self, things):
         return min(self.number, len(things))
 
 
@@ -27,8 +28,9 @@ class Teams(Rule):
         super().__init__(len(classes))
         self.classes = tuple(classes)
         self.places = tuple(places)
+        self._full = self.rank_of(self._all)
 
-    def rank_of(self, things):
+    def rank_found(self, things):
         held = [self.classes[thing] for thing in things]
         return sum([min(most, held.count(at)) for at, most in enumerate(self.places)])
 
@@ -40,8 +42,9 @@ class Works(Rule):
         check_entries([is_count(entry) for entry in days])
         super().__init__(len(days))
         self.days = tuple(days)
+        self._full = self.rank_of(self._all)
 
-    def rank_of(self, things):
+    def rank_found(self, things):
         # A work that is due no earlier than those done so far can be done behind them, or no longer at all.
         done = 0
         for day in sorted([self.days[thing] for thing in things]):

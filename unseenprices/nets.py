@@ -17,8 +17,9 @@ class Net(Rule):
         super().__init__(len(lines))
         self.points = points
         self.lines = tuple([tuple(line) for line in lines])
+        self._full = self.rank_of(self._all)
 
-    def rank_of(self, things):
+    def rank_found(self, things):
         return self.points - len(set(marks_of(self, things)))
 
 

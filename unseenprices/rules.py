@@ -2,7 +2,7 @@
 
 from unseenprices.errors import BadNumber, BadThing, NotALot, TooMany
 from unseenprices.pairing import most_pairs
-from unseenprices.sets import both, is_below, is_count, minus, set_of, subsets
+from unseenprices.sets import both, is_count, minus, set_of, subsets, thing_of
 
 MOST_FOR_LOTS = 10
 
@@ -10,7 +10,7 @@ MOST_FOR_LOTS = 10
 class Rule:
     """The rule under which every set is free, and the base class of all classes of rules.
 
-    A class below defines rank_of; all other answers come from it.
+    A class below defines rank_found; all other answers come from it. Its __init__ ends by setting _full.
     """
 
     def __init__(self, size):
@@ -18,10 +18,20 @@ class Rule:
             raise BadNumber("size")
         self.size = size
         self._all = tuple(range(size))
+        self._ranks = {}
+        # Set ahead of all questions, because a property must not change the kept ranks.
+        self._full = size
+
+    def rank_found(self, things):
+        """Work out the rank of an ascending tuple of things, which is not checked."""
+        return len(things)
 
     def rank_of(self, things):
         """Return the rank of an ascending tuple of things, which is not checked."""
-        return len(things)
+        # Shapes over one another ask for the same few sets again and again.
+        if things not in self._ranks:
+            self._ranks[things] = self.rank_found(things)
+        return self._ranks[things]
 
     def __len__(self):
         return len(self._all)
@@ -29,7 +39,7 @@ class Rule:
     @property
     def full(self):
         """The rank of all things."""
-        return self.rank_of(self._all)
+        return self._full
 
     def is_free(self, things):
         """Return whether the set is free."""
@@ -57,14 +67,13 @@ class Rule:
 
     def firm(self):
         """Return the set of all things that are in every lot."""
-        full = self.full
-        return tuple([thing for thing in self._all if self.rank_of(minus(self._all, (thing,))) < full])
+        return tuple([thing for thing in self._all if self.rank_of(minus(self._all, (thing,))) < self._full])
 
     def lots(self):
         """Return the list of all lots, ascending."""
         if self.size > MOST_FOR_LOTS:
             raise TooMany(self.size)
-        full = self.full
+        full = self._full
         return [held for held in subsets(self._all) if len(held) == full and self.rank_of(held) == full]
 
     def circuit(self, lot, thing):
@@ -87,6 +96,11 @@ class Rule:
         return exchanges_with(self, held, held, minus(self._all, held))
 
 
+def all_things(rule):
+    """Return the set of all things of the rule."""
+    return tuple(range(rule.size))
+
+
 def check_lot(rule, lot):
     """Return the lot as a tuple; raises BadSet(place) or NotALot(things)."""
     held = set_of(rule.size, lot)
@@ -97,9 +111,7 @@ def check_lot(rule, lot):
 
 def check_thing(rule, thing):
     """Return the thing; raises BadThing(thing)."""
-    if not is_below(thing, rule.size):
-        raise BadThing(thing)
-    return thing
+    return thing_of(rule.size, thing)
 
 
 def stays_free(rule, free, leaving, coming):

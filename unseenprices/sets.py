@@ -1,6 +1,6 @@
 """Sets of things as ascending tuples, worlds, and what kind of number a value is."""
 
-from unseenprices.errors import BadSet, BadWorld
+from unseenprices.errors import BadSet, BadThing, BadWorld
 
 TOP = 1000000
 
@@ -41,6 +41,13 @@ def set_of(size, things):
     return tuple(things)
 
 
+def thing_of(size, thing):
+    """Return the thing; raises BadThing(thing)."""
+    if not is_below(thing, size):
+        raise BadThing(thing)
+    return thing
+
+
 def world_of(size, prices):
     """Return the world of so many things as a tuple; raises BadWorld(place)."""
     for place in range(size):
@@ -49,6 +56,11 @@ def world_of(size, prices):
     if len(prices) > size:
         raise BadWorld(size)
     return tuple(prices)
+
+
+def along_keys(world):
+    """Return the list of the things in the order of their keys in the world, which is not checked."""
+    return [thing for _, thing in sorted([(price, thing) for thing, price in enumerate(world)])]
 
 
 def both(one, other):

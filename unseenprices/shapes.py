@@ -12,8 +12,9 @@ class Less(Rule):
         super().__init__(rule.size)
         self.rule = rule
         self.gone = set_of(rule.size, things)
+        self._full = self.rank_of(self._all)
 
-    def rank_of(self, things):
+    def rank_found(self, things):
         return self.rule.rank_of(minus(things, self.gone))
 
 
@@ -25,8 +26,9 @@ class Drawn(Rule):
         self.rule = rule
         self.gone = set_of(rule.size, things)
         self._base = rule.rank_of(self.gone)
+        self._full = self.rank_of(self._all)
 
-    def rank_of(self, things):
+    def rank_found(self, things):
         return self.rule.rank_of(both(things, self.gone)) - self._base
 
 
@@ -39,6 +41,7 @@ class Cut(Rule):
             raise BadNumber("k")
         self.rule = rule
         self.most = k
+        self._full = self.rank_of(self._all)
 
-    def rank_of(self, things):
+    def rank_found(self, things):
         return min(self.most, self.rule.rank_of(things))

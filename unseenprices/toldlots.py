@@ -16,8 +16,9 @@ class ToldLots(Rule):
             raise BadLots(one, other, thing)
         super().__init__(size)
         self._told = tuple(told)
+        self._full = self.rank_of(self._all)
 
-    def rank_of(self, things):
+    def rank_found(self, things):
         # A thing can be taken if some lot has it and all that is taken already; other lots no longer matter.
         left = self._told
         taken = 0
