@@ -4,14 +4,16 @@ import random
 from itertools import product
 
 from tests.meaning import (
-    Meaning, all_sets, columns_test, cut_meaning, drawn_meaning, firsts_test, less_meaning, many_meaning, net_test,
-    sum_meaning, teams_test, told_test, turned_meaning, works_test,
+    Meaning, all_sets, columns_test, cut_meaning, drawn_meaning, firsts_test, less_meaning, level_meaning,
+    many_meaning, net_test, sum_meaning, teams_test, told_test, turned_meaning, works_test,
 )
 from unseenprices.columns import Columns
 from unseenprices.counting import Firsts, Teams, Works
+from unseenprices.levels import Level
 from unseenprices.many import Many
 from unseenprices.nets import Net
 from unseenprices.rules import Rule
+from unseenprices.sets import TOP
 from unseenprices.shapes import Cut, Drawn, Less
 from unseenprices.sums import Sum
 from unseenprices.toldlots import ToldLots
@@ -85,6 +87,8 @@ def shaped(rule, meaning, word, given):
         return Cut(rule, given), cut_meaning(meaning, given)
     if word == "many":
         return Many(rule, given), many_meaning(meaning, given)
+    if word == "level":
+        return Level(rule, given), level_meaning(meaning, given)
     if word == "turned":
         return Turned(rule), turned_meaning(meaning)
     other, meant = given
@@ -98,6 +102,8 @@ def some_given(chance, size, word):
         return chance.randrange(1, 4)
     if word == "sum":
         return Firsts(1, 1), Meaning(1, firsts_test(1))
+    if word == "level":
+        return tuple(chance.choice((0, 4, 4, TOP)) for _ in range(size))
     return tuple(x for x in range(size) if chance.random() < 0.3)
 
 
@@ -161,6 +167,19 @@ def mixed_rules(rules):
     return found
 
 
+def level_rules(rules):
+    """Return the rules of the cheapest lots of some worlds, and shapes over them, each with its meaning."""
+    chance = random.Random(9)
+    found = []
+    for rule, meaning in [row for row in rules if len(row[1].lots) > 1 and row[1].size <= 5]:
+        for words in (("level",), ("level", chance.choice(("turned", "many", "less", "drawn", "level")))):
+            shape = (rule, meaning)
+            for word in words:
+                shape = shaped(*shape, word, some_given(chance, meaning.size, word))
+            found.append(shape)
+    return found
+
+
 def wide_rules():
     """Return rules of each kind but the shapes with 11 to 16 things."""
     chance = random.Random(4)
@@ -203,8 +222,14 @@ def deep_shapes(rules):
             Turned(Less(Many(Drawn(rule, (2,)), 2), (1, 7))),
             Turned(Many(Less(Turned(rule), (0, 3)), 2)),
             Many(Many(Many(Cut(rule, 1), 2), 3), 1),
+            Level(Many(Level(Drawn(rule, (1,)), flat_world(rule.size)), 2), flat_world(rule.size)[::-1]),
         ]
     return found
+
+
+def flat_world(size):
+    """Return a world in which many things cost the same."""
+    return tuple((x * x) % 3 for x in range(size))
 
 
 def wide_sums():
@@ -225,6 +250,7 @@ TURNED_RULES = turned_rules(PLAIN_RULES + SHAPE_RULES)
 SUM_RULES = sum_rules(PLAIN_RULES)
 MANY_RULES = many_rules(PLAIN_RULES + SHAPE_RULES)
 MIXED_RULES = mixed_rules(PLAIN_RULES + SUM_RULES)
-SMALL_RULES = PLAIN_RULES + SHAPE_RULES + TURNED_RULES + SUM_RULES + MANY_RULES + MIXED_RULES
+LEVEL_RULES = level_rules(PLAIN_RULES + SUM_RULES + MIXED_RULES)
+SMALL_RULES = PLAIN_RULES + SHAPE_RULES + TURNED_RULES + SUM_RULES + MANY_RULES + MIXED_RULES + LEVEL_RULES
 WIDE_RULES = wide_rules()
 DEEP_RULES = deep_rules(WIDE_RULES) + deep_shapes(WIDE_RULES) + wide_sums()

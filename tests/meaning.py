@@ -255,3 +255,9 @@ def divisible_sets(meaning, k):
 def many_meaning(meaning, k):
     found = divisible_sets(meaning, k)
     return Meaning(meaning.size, lambda things: things in found)
+
+
+def level_meaning(meaning, world):
+    """Return what point 48 tells of: a rule that has the cheapest lots of the world as its lots."""
+    least = min(sum(world[x] for x in lot) for lot in meaning.lots)
+    return Meaning(meaning.size, told_test([lot for lot in meaning.lots if sum(world[x] for x in lot) == least]))

@@ -6,6 +6,7 @@ import inspect
 import os
 import unittest
 
+README = os.path.join(os.path.dirname(__file__), "..", "README.md")
 LISTED = {
     "sets": ("set_of", "world_of", "both", "common", "minus", "turned_set", "turned_rest", "subsets"),
     "rules": ("Rule", "check_lot", "check_thing", "basis", "swaps"),
@@ -22,6 +23,16 @@ LISTED = {
     "covering": ("lots_apart", "few_outside", "most_apart", "covers", "fullest", "lot_prices"),
     "stretches": ("stretches_of",),
     "comparing": ("pairs_of", "row_between", "ring_in", "behind", "forward"),
+    "bounds": ("bounds",),
+    "notes": ("Notes", "agreeing_world"),
+    "worlds": (
+        "worlds", "count_worlds", "climb", "turned_world", "before", "order_of", "world_along", "extreme",
+    ),
+    "choosing": ("lot_of", "price_of", "out_of_order", "dearer", "critical_key", "moved"),
+    "levels": ("Level",),
+    "surelots": ("sure_lot", "doubt"),
+    "fitting": ("world_for", "hindered"),
+    "judging": ("verdict", "verdicts", "world_with", "world_without"),
 }
 PARAMETERS = {
     "set_of": "size things", "world_of": "size prices", "both": "one other", "common": "one other",
@@ -36,8 +47,47 @@ PARAMETERS = {
     "loosest": "many things", "lots_apart": "rule k", "few_outside": "rule k", "most_apart": "rule",
     "covers": "rule", "fullest": "rule", "lot_prices": "rule world most", "stretches_of": "told",
     "pairs_of": "size told", "row_between": "size pairs one other", "ring_in": "size pairs",
-    "behind": "size pairs thing", "forward": "size pairs",
+    "behind": "size pairs thing", "forward": "size pairs", "bounds": "stretches pairs", "Notes": "stretches pairs",
+    "agreeing_world": "notes prices", "worlds": "notes", "count_worlds": "notes", "climb": "notes world other",
+    "turned_world": "world", "before": "world thing", "order_of": "world", "world_along": "order",
+    "extreme": "notes things", "lot_of": "rule world", "price_of": "world things", "out_of_order": "rule lot world",
+    "dearer": "rule lot world", "critical_key": "rule world thing", "moved": "rule world other",
+    "Level": "rule world", "sure_lot": "rule notes", "doubt": "rule notes lot", "world_for": "rule notes lot",
+    "hindered": "rule notes lot", "verdict": "rule notes thing", "verdicts": "rule notes",
+    "world_with": "rule notes thing", "world_without": "rule notes thing",
 }
+# The methods that the interface lists for a class stand in that class itself; stars come before keyword names.
+METHODS = {
+    "Rule": {
+        "__init__": "self size", "__len__": "self", "is_free": "self things", "is_lot": "self things",
+        "rank": "self things", "span": "self things", "dead": "self", "firm": "self", "lots": "self",
+        "circuit": "self lot thing", "blow_of": "self lot thing", "exchanges": "self lot",
+    },
+    "Sum": {"shares": "self things", "home": "self thing"},
+    "Notes": {
+        "__init__": "self stretches * pairs", "unknown": "size * pairs", "along": "order", "__len__": "self",
+        "__eq__": "self other", "__add__": "self other", "__invert__": "self", "seen": "self thing", "unseen": "self",
+        "sure_before": "self one other", "must_precede": "self thing", "may_precede": "self thing",
+        "earliest": "self thing", "latest": "self thing", "agrees": "self world", "ask": "self thing price",
+        "narrow": "self thing low high", "compare": "self one other", "after": "self things world",
+    },
+}
+PROPERTIES = {"Rule": ("full",), "Notes": ("plain",)}
+
+
+def words_of(call):
+    """Return the names of the parameters, with a star before those that are passed by keyword."""
+    found = []
+    for name, one in inspect.signature(call).parameters.items():
+        if one.kind == one.KEYWORD_ONLY and "*" not in found:
+            found.append("*")
+        found.append(name)
+    return " ".join(found)
+
+
+def class_called(name):
+    file = [file for file, names in LISTED.items() if name in names][0]
+    return getattr(importlib.import_module(f"unseenprices.{file}"), name)
 
 
 class InterfaceTest(unittest.TestCase):
@@ -49,8 +99,25 @@ class InterfaceTest(unittest.TestCase):
                 self.assertEqual(found.__module__, module.__name__, name)
                 self.assertEqual(" ".join(inspect.signature(found).parameters), PARAMETERS[name])
 
+    def test_methods_stand_in_the_class(self):
+        for name, methods in METHODS.items():
+            found = class_called(name)
+            for method, words in methods.items():
+                self.assertIn(method, vars(found), name)
+                self.assertEqual(words_of(getattr(found, method)), words)
+        for name, names in PROPERTIES.items():
+            for one in names:
+                self.assertIsInstance(vars(class_called(name))[one], property)
+
+    def test_the_readme_names_all_of_it(self):
+        with open(README, encoding="utf-8") as file:
+            text = file.read()
+        for file, names in LISTED.items():
+            self.assertIn(f"`unseenprices.{file}`", text)
+            for name in names:
+                self.assertIn(f"`{name}`", text)
+
     def test_readme(self):
-        path = os.path.join(os.path.dirname(__file__), "..", "README.md")
-        told = doctest.testfile(path, module_relative=False)
-        self.assertGreater(told.attempted, 30)
+        told = doctest.testfile(README, module_relative=False)
+        self.assertGreater(told.attempted, 45)
         self.assertEqual(told.failed, 0)

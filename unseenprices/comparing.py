@@ -1,6 +1,6 @@
 """Comparisons: which of two things comes first, rows and rings of comparisons, and orders in which all are true."""
 
-from unseenprices.errors import BadPair
+from unseenprices.errors import BadOrder, BadPair
 from unseenprices.sets import is_below, thing_of
 
 
@@ -61,15 +61,20 @@ def ring_in(size, pairs):
     return None
 
 
+def reached_from(pairs, thing):
+    """Return what behind returns; nothing is checked."""
+    reached = []
+    level = [thing]
+    while level:
+        level = sorted(set([second for first, second in pairs if first in level and second not in reached]))
+        reached = reached + level
+    return tuple(sorted(reached))
+
+
 def behind(size, pairs, thing):
     """Return the set of the things to which a row leads from the thing."""
     told = pairs_of(size, pairs)
-    reached = []
-    level = [thing_of(size, thing)]
-    while level:
-        level = sorted(set([second for first, second in told if first in level and second not in reached]))
-        reached = reached + level
-    return tuple(sorted(reached))
+    return reached_from(told, thing_of(size, thing))
 
 
 def forward(size, pairs):
@@ -85,4 +90,14 @@ def forward(size, pairs):
         order.append(ready[0])
         left = [thing for thing in left if thing != ready[0]]
         told = [(one, other) for one, other in told if one != ready[0]]
+    return tuple(order)
+
+
+def told_order(size, order):
+    """Return the order of so many things as a tuple; raises BadOrder(place)."""
+    for place in range(size):
+        if place >= len(order) or not is_below(order[place], size) or order[place] in order[:place]:
+            raise BadOrder(place)
+    if len(order) > size:
+        raise BadOrder(size)
     return tuple(order)

@@ -63,6 +63,11 @@ def along_keys(world):
     return [thing for _, thing in sorted([(price, thing) for thing, price in enumerate(world)])]
 
 
+def is_before(world, one, other):
+    """Return whether one thing is before the other in the world; nothing is checked."""
+    return (world[one], one) < (world[other], other)
+
+
 def both(one, other):
     """Return the set one + other."""
     return tuple(sorted(set(one) | set(other)))
