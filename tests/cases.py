@@ -19,6 +19,8 @@ class Case:
         self.notes = known.notes
         self.worlds = known.worlds
         self.found = [finder.lot(world) for world in known.worlds]
+        self.cheapest = [finder.cheapest(world) for world in known.worlds]
+        self.prices = [sum(world[x] for x in lot) for world, lot in zip(self.worlds, self.found)]
 
     def possible(self):
         return sorted(set(self.found))
@@ -27,6 +29,11 @@ class Case:
         """Return the verdict of the thing."""
         having = [thing in lot for lot in self.found]
         return "in" if all(having) else "unsettled" if any(having) else "out"
+
+
+    def is_safe(self, lot):
+        """Return whether the lot is cheapest in every agreeing world."""
+        return all(lot in row for row in self.cheapest)
 
 
 def few_worlds(chance, size, many):
@@ -50,6 +57,17 @@ def small_cases():
             known = max(drawn, key=lambda one: len(one.worlds))
             found.append(Case(rule, meaning, finder, known))
     return found
+
+
+def price_in(world, lot):
+    return sum(world[x] for x in lot)
+
+
+def every_integer(case, values, reach):
+    """Check that the values are every integer between the two ends and no other one."""
+    case.assertIsInstance(reach, tuple)
+    least, most = reach
+    case.assertEqual(sorted(set(values)), list(range(least, most + 1)))
 
 
 CASES = small_cases()

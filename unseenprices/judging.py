@@ -22,6 +22,13 @@ def judged(rule, notes, thing):
     return "out" if is_out(rule, notes, thing) else "unsettled"
 
 
+def ins_and_outs(rule, notes):
+    """Return the set of the things that are in, and the set of those that are out; nothing is checked."""
+    things = all_things(rule)
+    ins = tuple([thing for thing in things if is_in(rule, notes, thing)])
+    return ins, tuple([thing for thing in things if is_out(rule, notes, thing)])
+
+
 def verdict(rule, notes, thing):
     """Return "in", "out" or "unsettled"."""
     check_sizes(rule, notes)

@@ -166,3 +166,9 @@ def check_plain(notes):
     """Raise NotPlain() if the notes have comparisons."""
     if not notes.plain:
         raise NotPlain()
+
+
+def check_plain_for(rule, notes):
+    """Raise what comes first where a rule and plain notes are asked for: OtherSize(size), then NotPlain()."""
+    check_sizes(rule, notes)
+    check_plain(notes)
