@@ -154,6 +154,24 @@ class SyntaxTest(unittest.TestCase):
             self.assertEqual(len(node.body), 2, node.name)
             self.assertTrue(isinstance(last, ast.Return) and isinstance(last.value, ast.Attribute), node.name)
 
+    def test_an_operator_changes_nothing(self):
+        found = [node for node in self.nodes(ast.FunctionDef) if node.name[:2] == "__" and node.name != "__init__"]
+        self.assertTrue(found)
+        for node in [inner for one in found for inner in ast.walk(one)]:
+            if isinstance(node, (ast.Attribute, ast.Subscript)):
+                self.assertIsInstance(node.ctx, ast.Load)
+            self.assertNotIsInstance(node, (ast.AugAssign, ast.Delete))
+
+    def test_a_class_method_only_calls_its_class(self):
+        for node in self.nodes(ast.FunctionDef):
+            if "classmethod" in map(ast.unparse, node.decorator_list):
+                name = node.args.args[0].arg
+                inner = [
+                    part for one in ast.walk(node) if isinstance(one, (ast.ListComp, ast.Lambda, ast.DictComp))
+                    for part in ast.walk(one)
+                ]
+                self.assertNotIn(name, [part.id for part in inner if isinstance(part, ast.Name)])
+
     def test_no_loop_changes_what_it_goes_over(self):
         for loop in self.nodes(ast.For):
             named = {ast.unparse(node) for node in ast.walk(loop.iter) if isinstance(node, (ast.Name, ast.Attribute))}

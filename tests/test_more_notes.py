@@ -54,6 +54,16 @@ class MoreNotesTest(unittest.TestCase):
                     self.assertEqual(found, Notes(known.stretches, pairs=(*known.pairs, (x, y))))
                     self.assertEqual(found == known.notes, (x, y) in known.pairs)
 
+    def test_a_comparison_that_follows(self):
+        notes = Notes(((0, 9), (0, 9), (0, 9)), pairs=((2, 1), (1, 0)))
+        more = notes.compare(2, 0)
+        self.assertEqual([more.pairs, more == notes], [((1, 0), (2, 0), (2, 1)), False])
+        self.assertEqual([more.lows, more.highs], [notes.lows, notes.highs])
+        bounded = Notes(((0, 3), (3, 9)))
+        self.assertTrue(bounded.sure_before(0, 1))
+        self.assertEqual([bounded.compare(0, 1) == bounded, bounded.compare(0, 1).plain], [False, False])
+        self.assertEqual(bounded.compare(0, 1).lows, (0, 3))
+
     def test_rows_of_not_good(self):
         for known in SMALL_KNOWN:
             for x, y in all_pairs(known.size):

@@ -21,7 +21,6 @@ def near_world(notes, thing):
     """Return what near returns; nothing is checked."""
     least = notes.lows[thing]
     goals = [least + 1 if one < thing else least for one in range(notes.size)]
-    goals[thing] = least
     return tuple([max(low, min(high, goal)) for low, high, goal in zip(notes.lows, notes.highs, goals)])
 
 

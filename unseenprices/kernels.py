@@ -1,4 +1,4 @@
-"""The smaller rule in which only the unsettled things are open."""
+"""The smaller rule in which all that is certain of the lot is settled."""
 
 from unseenprices.judging import ins_and_outs
 from unseenprices.notes import check_sizes

@@ -64,7 +64,8 @@ def covers_from(pairs, fronts):
     found = []
     for kept in subsets(fronts):
         needed = sorted(set([second for first, second in pairs if first not in kept]))
-        useful = [first for first, second in pairs if first in kept and second not in needed]
-        if len(set(useful)) == len(kept):
+        # Only kept things can have a partner that is not needed, and they are in vain if they have none.
+        used = sorted(set([first for first, second in pairs if second not in needed]))
+        if len(used) == len(kept):
             found.append(tuple(sorted([*kept, *needed])))
     return sorted(found)
