@@ -45,6 +45,14 @@ LISTED = {
     "dues": (
         "near", "forced_things", "is_due", "pressing", "useful", "ask_verdict", "due_world", "spare_world",
     ),
+    "papers": ("Told",),
+    "safepapers": ("SafeTold", "fewest_for"),
+    "chains": ("lot_along", "shown_along", "other_order", "fewest_along"),
+    "pairs": ("low_pair", "high_pair", "step"),
+    "runs": ("Run", "Kept", "foreseen"),
+    "lazy": ("lazy_below", "lazy_above", "lot_and_price"),
+    "foes": ("Foe", "TwiceFoe", "UsefulFoe", "SomeFoe"),
+    "champions": ("comparing",),
 }
 PARAMETERS = {
     "set_of": "size things", "world_of": "size prices", "both": "one other", "common": "one other",
@@ -77,6 +85,12 @@ PARAMETERS = {
     "lean_covers": "pairs", "near": "notes thing", "forced_things": "rule notes world",
     "is_due": "rule notes world thing", "pressing": "rule notes", "useful": "rule notes",
     "ask_verdict": "rule notes thing", "due_world": "rule notes thing", "spare_world": "rule notes thing",
+    "Told": "rule notes world", "SafeTold": "rule notes world", "fewest_for": "rule notes world lot",
+    "lot_along": "rule order", "shown_along": "rule order pairs", "other_order": "rule order pairs",
+    "fewest_along": "rule order", "low_pair": "rule notes", "high_pair": "rule notes", "step": "rule notes",
+    "Run": "rule notes", "Kept": "run", "foreseen": "kept world", "lazy_below": "rule notes world",
+    "lazy_above": "rule notes world", "lot_and_price": "rule notes world", "Foe": "rule notes",
+    "TwiceFoe": "number", "UsefulFoe": "rule notes", "SomeFoe": "size", "comparing": "rule order",
 }
 # The methods that the interface lists for a class stand in that class itself; stars come before keyword names.
 METHODS = {
@@ -93,8 +107,22 @@ METHODS = {
         "earliest": "self thing", "latest": "self thing", "agrees": "self world", "ask": "self thing price",
         "narrow": "self thing low high", "compare": "self one other", "after": "self things world",
     },
+    "Told": {
+        "__init__": "self rule notes world", "shows": "self things", "two_worlds": "self things", "lean_papers": "self",
+        "doubled": "self number", "__iter__": "self", "__contains__": "self thing",
+    },
+    "SafeTold": {"__init__": "self rule notes world", "shows": "self things"},
+    "Run": {
+        "__init__": "self rule notes", "next_step": "self", "put": "self thing price", "finish": "self world",
+        "ahead": "self world", "lot_now": "self", "kept": "self", "__iter__": "self",
+    },
+    "Kept": {"__init__": "self run", "__enter__": "self", "__exit__": "self kind value trace"},
+    "Foe": {"__init__": "self rule notes", "__call__": "self thing", "answers": "self", "whole": "self"},
+    "TwiceFoe": {"__init__": "self number", "counter": "self"},
+    "UsefulFoe": {"__init__": "self rule notes"},
+    "SomeFoe": {"__init__": "self size", "counter": "self"},
 }
-PROPERTIES = {"Rule": ("full",), "Notes": ("plain",)}
+PROPERTIES = {"Rule": ("full",), "Notes": ("plain",), "Run": ("sure",), "Kept": ("ended",)}
 
 
 def words_of(call):
@@ -135,9 +163,9 @@ class InterfaceTest(unittest.TestCase):
         with open(README, encoding="utf-8") as file:
             text = file.read()
         for file, names in LISTED.items():
-            self.assertIn(f"`unseenprices.{file}`", text)
+            self.assertTrue(f"`unseenprices.{file}`" in text, file)
             for name in names:
-                self.assertIn(f"`{name}`", text)
+                self.assertTrue(f"`{name}`" in text, name)
 
     def test_readme(self):
         told = doctest.testfile(README, module_relative=False)

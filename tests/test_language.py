@@ -155,12 +155,39 @@ class SyntaxTest(unittest.TestCase):
             self.assertTrue(isinstance(last, ast.Return) and isinstance(last.value, ast.Attribute), node.name)
 
     def test_an_operator_changes_nothing(self):
-        found = [node for node in self.nodes(ast.FunctionDef) if node.name[:2] == "__" and node.name != "__init__"]
+        changing = ("__init__", "__enter__", "__exit__", "__call__")
+        found = [node for node in self.nodes(ast.FunctionDef) if node.name[:2] == "__" and node.name not in changing]
         self.assertTrue(found)
         for node in [inner for one in found for inner in ast.walk(one)]:
             if isinstance(node, (ast.Attribute, ast.Subscript)):
                 self.assertIsInstance(node.ctx, ast.Load)
             self.assertNotIsInstance(node, (ast.AugAssign, ast.Delete))
+
+    def test_leaving_a_block_only_assigns_attributes(self):
+        found = [node for node in self.nodes(ast.FunctionDef) if node.name == "__exit__"]
+        self.assertTrue(found)
+        for row in [row for node in found for row in node.body]:
+            self.assertIsInstance(row, ast.Assign)
+            self.assertEqual([one.__class__ for one in row.targets], [ast.Attribute])
+            self.assertIsInstance(row.value, (ast.Attribute, ast.Constant))
+
+    def test_iterating_goes_over_an_attribute(self):
+        found = [node for node in self.nodes(ast.FunctionDef) if node.name == "__iter__"]
+        self.assertTrue(found)
+        for node in found:
+            self.assertRegex(ast.unparse(node.body[-1]), r"^return iter\(self\.[a-z_.]+\)$")
+            self.assertEqual(len(node.body), 1)
+
+    def test_no_name_is_a_method_and_an_attribute(self):
+        methods, stored = {}, {}
+        for node in self.nodes(ast.ClassDef):
+            methods[node.name] = {row.name for row in node.body if isinstance(row, ast.FunctionDef)}
+            stored[node.name] = {
+                one.attr for one in ast.walk(node) if isinstance(one, ast.Attribute) and isinstance(one.ctx, ast.Store)
+            }
+        for names in stored.values():
+            for name in methods:
+                self.assertFalse(names & methods[name], name)
 
     def test_a_class_method_only_calls_its_class(self):
         for node in self.nodes(ast.FunctionDef):
