@@ -53,6 +53,14 @@ LISTED = {
     "lazy": ("lazy_below", "lazy_above", "lot_and_price"),
     "foes": ("Foe", "TwiceFoe", "UsefulFoe", "SomeFoe"),
     "champions": ("comparing",),
+    "blows": ("is_blow", "missing", "lean_blows", "least_blow", "strength", "bears"),
+    "standins": ("lot_left", "comes", "trail", "may_come", "must_come"),
+    "losscosts": ("loss_cost", "loss_worlds", "loss_reach"),
+    "depths": ("depth", "depth_loss", "depth_ends", "stock"),
+    "ways": ("ways", "cut"),
+    "desks": ("Desk",),
+    "trials": ("Trial", "tried"),
+    "listings": ("line_of", "listing"),
 }
 PARAMETERS = {
     "set_of": "size things", "world_of": "size prices", "both": "one other", "common": "one other",
@@ -91,6 +99,13 @@ PARAMETERS = {
     "Run": "rule notes", "Kept": "run", "foreseen": "kept world", "lazy_below": "rule notes world",
     "lazy_above": "rule notes world", "lot_and_price": "rule notes world", "Foe": "rule notes",
     "TwiceFoe": "number", "UsefulFoe": "rule notes", "SomeFoe": "size", "comparing": "rule order",
+    "is_blow": "rule things", "missing": "rule things", "lean_blows": "rule", "least_blow": "rule", "strength": "rule",
+    "bears": "rule number", "lot_left": "rule world things", "comes": "rule world thing", "trail": "rule world row",
+    "may_come": "rule notes thing", "must_come": "rule notes thing", "loss_cost": "rule world things",
+    "loss_worlds": "rule notes things", "loss_reach": "rule notes things", "depth": "rule world thing",
+    "depth_loss": "rule world thing", "depth_ends": "rule notes thing", "stock": "rule world k",
+    "ways": "net things line", "cut": "net things line", "Desk": "rule notes", "Trial": "desk",
+    "tried": "trial deeds", "line_of": "desk thing", "listing": "desk",
 }
 # The methods that the interface lists for a class stand in that class itself; stars come before keyword names.
 METHODS = {
@@ -121,8 +136,18 @@ METHODS = {
     "TwiceFoe": {"__init__": "self number", "counter": "self"},
     "UsefulFoe": {"__init__": "self rule notes"},
     "SomeFoe": {"__init__": "self size", "counter": "self"},
+    "Desk": {
+        "__init__": "self rule notes", "ask": "self thing price", "narrow": "self thing low high",
+        "compare": "self one other", "lose": "self thing", "regain": "self thing", "back": "self",
+        "verdict_of": "self thing", "sure_now": "self", "safe_now": "self", "step_now": "self", "regret_of": "self lot",
+        "fewest_in": "self world", "finish": "self world", "__len__": "self", "__iter__": "self",
+        "__contains__": "self thing",
+    },
+    "Trial": {"__init__": "self desk", "__enter__": "self", "__exit__": "self kind value trace"},
 }
-PROPERTIES = {"Rule": ("full",), "Notes": ("plain",), "Run": ("sure",), "Kept": ("ended",)}
+PROPERTIES = {
+    "Rule": ("full",), "Notes": ("plain",), "Run": ("sure",), "Kept": ("ended",), "Desk": ("left",), "Trial": ("ended",),
+}
 
 
 def words_of(call):
