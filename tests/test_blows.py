@@ -34,7 +34,8 @@ def rules_of_twelve():
     plain = [
         Rule(12), Firsts(12, 1), Firsts(12, 6), Firsts(12, 12), Teams((0, 1, 2) * 4, (1, 2, 3)), wheel,
         Works((1, 2, 3, 3, 3, 4, 4, 7, 7, 8, 9, 0)),
-        Columns(3, [(x % 3, x // 3 % 3, x * x % 3, 1) for x in range(12)]), Sum(Firsts(6, 2), Net(3, [(0, 1), (1, 2)] * 3)),
+        Columns(3, [(x % 3, x // 3 % 3, x * x % 3, 1) for x in range(12)]),
+        Sum(Firsts(6, 2), Net(3, [(0, 1), (1, 2)] * 3)),
     ]
     shapes = []
     for rule in plain:
@@ -88,9 +89,10 @@ class BlowTest(unittest.TestCase):
                 self.assertIs(bears(rule, number), told)
 
     def test_examples(self):
-        self.assertEqual([least_blow(NET), strength(NET), lean_blows(NET)], [(0, 1), 2, [(0, 1), (0, 2), (1, 2), (3, 4)]])
+        self.assertEqual([least_blow(NET), strength(NET)], [(0, 1), 2])
+        self.assertEqual(lean_blows(NET), [(0, 1), (0, 2), (1, 2), (3, 4)])
         self.assertEqual([is_blow(NET, (3, 4)), missing(NET, (3, 4)), missing(NET, (0,))], [True, None, (1, 2, 3)])
-        self.assertEqual([bears(NET, 0), bears(NET, 1), bears(NET, 2), bears(NET, 10 ** 30)], [True, True, False, False])
+        self.assertEqual([bears(NET, number) for number in (0, 1, 2, 10 ** 30)], [True, True, False, False])
 
     def test_edges(self):
         for rule in (Rule(0), Firsts(3, 0), Works((0, 0))):

@@ -2,14 +2,14 @@
 
 import random
 import unittest
-from itertools import permutations
+from itertools import combinations, permutations
 
 from tests.asking import NET
 from tests.kinds import DEEP_RULES, SMALL_RULES, WIDE_RULES
-from tests.test_chains import ORDERS, true_in
 from tests.meaning import raised
 from tests.refusals import refuses_orders
-from unseenprices.chains import shown_along
+from tests.test_chains import ORDERS, true_in
+from unseenprices.chains import fewest_along, shown_along
 from unseenprices.champions import comparing
 from unseenprices.connected import parts
 from unseenprices.counting import Firsts, Teams
@@ -76,6 +76,23 @@ class ComparingTest(unittest.TestCase):
         for order in permutations(range(4)):
             self.assertIsNone(comparing(Firsts(4, 2), order))
         self.assertIsNone(comparing(Sum(Firsts(2, 1), Firsts(4, 2)), range(6)))
+
+    def test_three_comparisons_are_not_enough_for_every_order(self):
+        # Point 114: for this rule each plan makes four or more in some order, though three show the lot of each.
+        rule, orders = Firsts(4, 2), list(permutations(range(4)))
+        self.assertEqual({len(fewest_along(rule, order)) for order in orders}, {3})
+
+        def enough(pairs, left):
+            """Return whether some plan needs at most so many more comparisons behind these ones."""
+            fitting = [order for order in orders if true_in(order, pairs)]
+            if not fitting or shown_along(rule, fitting[0], pairs):
+                return True
+            return left > 0 and any(
+                enough([*pairs, (x, y)], left - 1) and enough([*pairs, (y, x)], left - 1)
+                for x, y in combinations(range(4), 2)
+            )
+        self.assertFalse(enough([], 3))
+        self.assertTrue(enough([], 5))
 
     def test_edges(self):
         self.assertEqual(comparing(Rule(0), ()), [])

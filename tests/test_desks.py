@@ -205,6 +205,9 @@ class DeedsTest(unittest.TestCase):
         # What is known of a lost thing counts for the others.
         self.assertEqual([desk.narrow(1, 2, 5), words_of(desk)], [(1, 2), ["lost", "in", "out"]])
         self.assertEqual([desk.regain(0), words_of(desk)], [(0, 1), ["unsettled", "unsettled", "out"]])
+        desk = Desk(Firsts(3, 1), Notes(((0, 9), (2, 6), (4, 8))))
+        self.assertEqual([desk.lose(0), desk.narrow(0, 7, 8), desk.finish((7, 5, 4)), len(desk)], [(0,), (), (2,), 4])
+        self.assertEqual([desk.notes.stretches, words_of(desk)], [((7, 8), (5, 5), (4, 4)), ["lost", "out", "in"]])
 
     def test_a_loss_that_is_a_blow(self):
         for rule in (NET, Firsts(5, 2), Firsts(5, 5)):
@@ -420,7 +423,9 @@ class WideTest(unittest.TestCase):
             while len(desk) < 200:
                 name, given = some_deed(chance, desk)
                 # Most things stay unseen, and comparisons below a bound of 60.
-                if name in ("ask", "narrow") and chance.random() < 0.8 or name == "compare" and len(desk.notes.pairs) > 50:
+                if name in ("ask", "narrow") and chance.random() < 0.8:
+                    continue
+                if name == "compare" and len(desk.notes.pairs) > 50:
                     continue
                 if raised(getattr(desk, name), *given) is None:
                     words.append(words_of(desk))

@@ -146,7 +146,8 @@ METHODS = {
     "Trial": {"__init__": "self desk", "__enter__": "self", "__exit__": "self kind value trace"},
 }
 PROPERTIES = {
-    "Rule": ("full",), "Notes": ("plain",), "Run": ("sure",), "Kept": ("ended",), "Desk": ("left",), "Trial": ("ended",),
+    "Rule": ("full",), "Notes": ("plain",), "Run": ("sure",), "Kept": ("ended",), "Desk": ("left",),
+    "Trial": ("ended",),
 }
 
 

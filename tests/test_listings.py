@@ -6,9 +6,9 @@ import unittest
 from tests.asking import NET, NOTES
 from tests.cases import CASES
 from tests.kinds import WIDE_RULES
+from tests.meaning import raised
 from tests.refusals import refuses_things
 from tests.test_desks import fresh, some_deed, whole_of
-from tests.meaning import raised
 from tests.test_surelots import wide_notes
 from unseenprices.counting import Firsts
 from unseenprices.desks import Desk

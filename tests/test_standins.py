@@ -109,7 +109,8 @@ class ComesTest(unittest.TestCase):
         for world in (WORLD, (0, 0, 0, 0, 0), (5, 4, 3, 2, 1)):
             lot = lot_of(NET, world)
             for x in lot:
-                home = {point: place for place, row in enumerate(pieces(NET, without_things(lot, (x,)))) for point in row}
+                found = pieces(NET, without_things(lot, (x,)))
+                home = {point: place for place, row in enumerate(found) for point in row}
                 row = sorted(range(5), key=lambda y: key(world, y))
                 crossing = [y for y in row if y != x and home[NET.lines[y][0]] != home[NET.lines[y][1]]]
                 self.assertEqual(comes(NET, world, x), crossing[0])
@@ -281,5 +282,5 @@ class WideTest(unittest.TestCase):
             self.assertEqual(lot_left(rule, world, sorted(row)), tuple(sorted(({*lot} | coming) - {*row})))
             told = notes.after(range(rule.size), world)
             for x in row[:1]:
-                may = may_come(rule, told, x)
-                self.assertEqual([may, must_come(rule, told, x)], [None if x not in lot else (comes(rule, world, x),)] * 2)
+                coming = (comes(rule, world, x),) if x in lot else None
+                self.assertEqual([may_come(rule, told, x), must_come(rule, told, x)], [coming, coming])

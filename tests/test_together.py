@@ -34,7 +34,7 @@ from unseenprices.many import Many, greatest, loosest
 from unseenprices.matching import greatest_row, lean_covers, least_cover
 from unseenprices.middles import calmest, middle_lot
 from unseenprices.nets import Net, pieces, ring
-from unseenprices.notes import Notes, agreeing_world
+from unseenprices.notes import agreeing_world
 from unseenprices.pairs import high_pair, low_pair, step
 from unseenprices.papers import Told
 from unseenprices.parting import parted, too_full
@@ -105,14 +105,16 @@ def of_rules(rule, world):
     order, last = order_of(world), rule.size - 1
     other = (*world[:last], 10 ** 6 - world[last])
     rows = [
-        (check_lot, rule, lot), (check_thing, rule, last), (basis, rule, order), (swaps, rule, lot, basis(rule, order[::-1])),
+        (check_lot, rule, lot), (check_thing, rule, last), (basis, rule, order),
+        (swaps, rule, lot, basis(rule, order[::-1])),
         (rule.lots,), (rule.dead,), (rule.firm,), (rule.rank, things), (rule.span, things), (rule.is_free, things),
         (rule.is_lot, lot), (rule.exchanges, lot), (rule.circuit, lot, last), (rule.blow_of, lot, last), (parts, rule),
         (part_of, rule, 0), (joined, rule, 0, last), (lacks, rule, things), (parted, rule, things, 2),
         (too_full, rule, things, 1), (greatest, Many(rule, 2), things), (loosest, Many(rule, 2), things),
         (lots_apart, rule, 2), (few_outside, rule, 2), (most_apart, rule), (covers, rule), (fullest, rule),
         (lot_prices, rule, world, 3), (lot_of, rule, world), (out_of_order, rule, lot, world),
-        (dearer, rule, lot, world), (critical_key, rule, world, 0), (moved, rule, world, other), (cheapest, rule, world),
+        (dearer, rule, lot, world), (critical_key, rule, world, 0), (moved, rule, world, other),
+        (cheapest, rule, world),
         (critical_price, rule, world, 0), (worth, rule, world, last), (lot_along, rule, order),
         (shown_along, rule, order, [order[:2]]), (other_order, rule, order, []), (fewest_along, rule, order),
         (comparing, rule, order), (is_blow, rule, things), (missing, rule, things), (lean_blows, rule),
@@ -132,7 +134,8 @@ def of_notes(rule, notes, world):
     lot, x = lot_of(rule, world), rule.size - 1
     rows = [
         (sure_lot, rule, notes), (doubt, rule, notes, lot), (world_for, rule, notes, lot), (hindered, rule, notes, lot),
-        (verdict, rule, notes, x), (verdicts, rule, notes), (world_with, rule, notes, x), (world_without, rule, notes, x),
+        (verdict, rule, notes, x), (verdicts, rule, notes), (world_with, rule, notes, x),
+        (world_without, rule, notes, x),
         (four, rule, notes, x), (safe_lot, rule, notes), (unsafe, rule, notes, lot), (kernel_of, rule, notes),
         (price_reach, rule, notes), (world_at, rule, notes, cheapest(rule, world)), (critical_reach, rule, notes, x),
         (between_lots, rule, notes, lot, lot), (worth_reach, rule, notes, x), (known, rule, notes),
@@ -140,7 +143,8 @@ def of_notes(rule, notes, world):
         (regret_worlds, rule, notes, lot), (regret_reach, rule, notes, lot), (gaps, rule, notes, lot),
         (swap_row, rule, notes, lot), (middle_lot, rule, notes), (calmest, rule, notes), (near, notes, x),
         (forced_things, rule, notes, world), (is_due, rule, notes, world, x), (pressing, rule, notes),
-        (useful, rule, notes), (ask_verdict, rule, notes, x), (due_world, rule, notes, x), (spare_world, rule, notes, x),
+        (useful, rule, notes), (ask_verdict, rule, notes, x), (due_world, rule, notes, x),
+        (spare_world, rule, notes, x),
         (lambda: told_of(Told(rule, notes, world)),), (lambda: safe_told_of(SafeTold(rule, notes, world)),),
         (fewest_for, rule, notes, world, lot), (low_pair, rule, notes), (high_pair, rule, notes), (step, rule, notes),
         (run_of, rule, notes, world), (lazy_below, rule, notes, world), (lazy_above, rule, notes, world),
@@ -163,9 +167,11 @@ def alone(size, world, pairs):
     row = [(x, x + 50) for x in things] + [(x, x + 51) for x in things[1:]]
     return [
         (set_of, size, things), (world_of, size, world), (both, things, (1,)), (common, things, (0,)),
-        (minus, things, (0,)), (turned_set, size, things), (turned_rest, size, things), (lambda: list(subsets(things)),),
+        (minus, things, (0,)), (turned_set, size, things), (turned_rest, size, things),
+        (lambda: list(subsets(things)),),
         (pieces, net, things), (ring, net, tuple(range(size))), (stretches_of, [(0, x) for x in world]),
-        (pairs_of, size, pairs), (row_between, size, pairs, 0, size - 1), (ring_in, size, pairs), (behind, size, pairs, 0),
+        (pairs_of, size, pairs), (row_between, size, pairs, 0, size - 1), (ring_in, size, pairs),
+        (behind, size, pairs, 0),
         (forward, size, pairs), (turned_world, world), (before, world, 0), (order_of, world),
         (world_along, order_of(world)), (price_of, world, things), (greatest_row, row), (least_cover, row),
         (lean_covers, row), (ways, net, things, 0), (cut, net, things, 0),
@@ -219,7 +225,8 @@ class TogetherTest(unittest.TestCase):
             found = some_known(chance, meaning.size, 0, 2)
             notes, world = found.notes, chance.choice(found.worlds)
             lot = lot_of(rule, world)
-            self.assertEqual([Told(rule, notes, world).lot, Run(rule, notes).finish(world), stock(rule, world, 1)], [lot] * 3)
+            self.assertEqual([Told(rule, notes, world).lot, Run(rule, notes).finish(world)], [lot, lot])
+            self.assertEqual(stock(rule, world, 1), lot)
             for x in set_of(meaning.size, lot):
                 if not is_blow(rule, (x,)):
                     desk = Desk(rule, notes)
